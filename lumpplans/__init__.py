@@ -1,0 +1,1 @@
+"""Rows of lumps pressed together by plans: see README.md."""
