@@ -37,6 +37,15 @@ class LexemesTest(unittest.TestCase):
         self.assertEqual(lexemes("z0 a"), [("word", "z0", 0), ("word", "a", 3)])
         self.assertEqual(lexemes("12abcdefghijkl"), [("number", "12", 0), ("word", "abcdefghijkl", 2)])
 
+    def test_each_letter_and_digit(self):
+        for letter in "abcdefghijklmnopqrstuvwxyz":
+            self.assertEqual(lexemes(letter), [("word", letter, 0)])
+            self.assertEqual(lexemes("1o" + letter), [("number", "1", 0), ("word", "o" + letter, 1)])
+        for digit in "0123456789":
+            self.assertEqual(lexemes(digit), [("number", digit, 0)])
+            self.assertEqual(lexemes("4" + digit), [("number", "4" + digit, 0)])
+            self.assertEqual(lexemes("o" + digit), [("word", "o" + digit, 0)])
+
     def test_words_that_are_too_long(self):
         self.check_wrong("o abcdefghijklm", 2)
         self.check_wrong("z234567890123", 0)
