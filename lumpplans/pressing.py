@@ -1,19 +1,42 @@
 """Rows that are pressed by plans."""
 
 from lumpplans.gluing import pressed_row, stretches
-from lumpplans.tables import table_size
+from lumpplans.tables import entry, table_size
+
+
+def rounded_up(many, size):
+    """Return many / size, rounded up."""
+    return (many + size - 1) // size
+
+
+def stages_used(plan, n):
+    """Return the stages by which a row of n lumps goes, and what is left behind them.
+
+    Each stage is told as (table, many, width): so many lumps come to the table, each of
+    so many places, but for the last one, which may have fewer. What is left is told by
+    the last two of these.
+    """
+    used = []
+    many = n
+    width = 1
+    table = plan.stage(0)
+    while many > 1 and table is not None:
+        used.append((table, many, width))
+        many = rounded_up(many, table_size(table))
+        width = width * table_size(table)
+        table = plan.stage(len(used))
+    return used, many, width
 
 
 def tables_used(plan, n):
     """Return the tables of the stages by which a row of n lumps goes, in order."""
-    used = []
-    left = n
-    table = plan.stage(0)
-    while left > 1 and table is not None:
-        used.append(table)
-        left = (left + table_size(table) - 1) // table_size(table)
-        table = plan.stage(len(used))
-    return used
+    used, _, _ = stages_used(plan, n)
+    return [table for table, _, _ in used]
+
+
+def stretch_entry(table, many, k):
+    """Return the entry by which a table presses the stretch number k of many lumps."""
+    return entry(table, min(table_size(table), many - k * table_size(table)))
 
 
 def _pressed_from_left(row):

@@ -17,3 +17,19 @@ def primes(table):
 def is_prime_table(table):
     """Return whether a table is prime."""
     return cuts(table) == []
+
+
+def common_length(one, other):
+    """Return with how many equal members two lists of primes begin."""
+    many = 0
+    while many < len(one) and many < len(other) and one[many] == other[many]:
+        many += 1
+    return many
+
+
+def root_length(word):
+    """Return the least number of first members that a list of primes repeats to its end."""
+    many = 1
+    while word[many:] + word[:many] != word:
+        many += 1
+    return many

@@ -41,13 +41,20 @@ def shape_height(shape):
     return 1 + max(shape_height(shape[0]), shape_height(shape[1]))
 
 
+def is_path(value):
+    """Return whether value, which may be anything, is a path."""
+    if not isinstance(value, tuple):
+        return False
+    return all([is_number(step) and step <= 1 for step in value])
+
+
 def part_at(shape, path):
     """Return the part to which path, which may be anything, leads, or None."""
-    if not isinstance(path, tuple):
+    if not is_path(path):
         return None
     part = shape
     for step in path:
-        if not is_number(step) or step > 1 or part == ():
+        if part == ():
             return None
         part = part[step]
     return part

@@ -3,6 +3,7 @@
 import itertools
 import sys
 
+from lumpplans.gluing import glue
 from lumpplans.plans import Plan
 
 P = ((), ())
@@ -86,3 +87,63 @@ def check_new_list(test, call):
     test.assertIsNot(first, again)
     first.append("changed")
     test.assertEqual(call(), again)
+
+
+def exchanged(draw, table):
+    """Return a table of size 3 or more with one entry exchanged for a drawn one."""
+    k = draw.randrange(1, len(table))
+    return table[:k] + (drawn_shape(draw, k + 2),) + table[k + 1:]
+
+
+def near_plans(draw, plan):
+    """Return plans that differ from a plan in an entry, a table or the end, or are alike to it."""
+    tables = plan.tables()
+    end = plan.end()
+    found = [Plan(tables, "left"), Plan(tables, "right"), Plan(tables[:-1], end)]
+    for k, table in enumerate(tables):
+        if len(table) > 1:
+            found.append(Plan(tables[:k] + (exchanged(draw, table),) + tables[k + 1:], end))
+    if isinstance(end, tuple):
+        found.append(Plan(tables + end[:1], end))
+        found.append(Plan(tables, end[1:] + end[:1]))
+        found.append(Plan(tables + end[:1], end[1:] + end[:1]))
+        for k, table in enumerate(end):
+            if len(table) > 1:
+                found.append(Plan(tables, end[:k] + (exchanged(draw, table),) + end[k + 1:]))
+    return found
+
+
+def glued_in_pairs(draw, tables):
+    """Return tables of which some neighbours are glued, if they are not too great."""
+    found = []
+    for table in tables:
+        if found and (len(found[-1]) + 1) * (len(table) + 1) <= 60 and draw.random() < 0.5:
+            found[-1] = glue(found[-1], table)
+        else:
+            found.append(table)
+    return tuple(found)
+
+
+def told_otherwise(draw, plan):
+    """Return plans that are alike to a plan, told with other tables."""
+    tables = plan.tables()
+    end = plan.end()
+    found = [Plan(glued_in_pairs(draw, tables), end) for _ in range(2)]
+    if isinstance(end, tuple):
+        found.append(Plan(tables, end + end))
+        found.append(Plan(tables + end[:1], end[1:] + end[:1]))
+        found.append(Plan(tables + end, end))
+        found.append(Plan(glued_in_pairs(draw, tables + end), glued_in_pairs(draw, end + end)))
+        found.append(Plan(glued_in_pairs(draw, tables + end[:1]), glued_in_pairs(draw, end[1:] + end + end[:1])))
+    return found
+
+
+def depths_of(text):
+    """Return the list of the depths of the places of the text of a shape."""
+    found = []
+    depth = 0
+    for sign in text:
+        if sign == "o":
+            found.append(depth)
+        depth += {"(": 1, ")": -1}.get(sign, 0)
+    return found

@@ -9,16 +9,10 @@ from lumpplans.tables import table_size
 from tests import oracles
 from tests.samples import (
     NO_TUPLES, P, Q, TWO, L, R, TWO_TWO, TWO_L, PRIME_SIX, check_new_list, drawn_shape, drawn_table,
-    tables_of,
+    exchanged, tables_of,
 )
 
 L_TWO = (P, Q, (Q, ()), (Q, P), (Q, Q))
-
-
-def exchanged(draw, table):
-    """Return a table with one entry exchanged for a drawn one."""
-    k = draw.randrange(1, len(table))
-    return table[:k] + (drawn_shape(draw, k + 2),) + table[k + 1:]
 
 
 def drawn_tables():

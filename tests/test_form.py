@@ -1,11 +1,20 @@
 """Where the interface is defined, and the sizes and characters that ../shared/LANGUAGE.md asks for."""
 
 import ast
+import builtins
 import importlib
 import pathlib
 import unittest
 
 FOLDER = pathlib.Path(__file__).resolve().parent.parent / "lumpplans"
+
+BUILTINS = (
+    "len range enumerate zip min max sum abs sorted reversed int str bool list tuple dict set isinstance ord "
+    "repr any all divmod ValueError LookupError").split()
+
+METHODS = (
+    "append count endswith extend find get index insert items join keys pop remove replace setdefault split "
+    "startswith strip update values bit_length").split()
 
 INTERFACE = {
     "errors": (
@@ -22,6 +31,19 @@ INTERFACE = {
     "primes": "primes is_prime_table",
     "pressing": "shape row_behind",
     "lumps": "all_lumps",
+    "digits": "is_lump lump_at path_of least_lump depth crossing",
+    "plainforms": "prime_list plain are_alike",
+    "parting": "common_beginning least_parting parting judge_parting",
+    "partings": "parting_table groups group_numbers nearest",
+    "tablewords": "begins ends rest_behind rest_ahead power root greatest_beginning",
+    "exchanges": "commute turns_into turning exchanges",
+    "overlaps": "overlap joint borders periods",
+    "shapecounts": "count_shapes shape_number shape_of next_shape",
+    "tablecounts": "count_tables count_primes count_glued",
+    "numbering": "table_number table_of next_table drawn_table tables_from prime_of prime_number",
+    "heights": "height last_depths deepest least_height is_least_high height_paper judge_height_paper",
+    "sizes": "lump_sizes count_of_size",
+    "lowcounts": "count_high count_low count_low_tables high_shape high_number low_table",
 }
 
 
@@ -63,6 +85,53 @@ class FormTest(unittest.TestCase):
                 self.assertNotIsInstance(node, ast.Import, path)
                 if isinstance(node, ast.ImportFrom):
                     self.assertTrue(node.module.startswith("lumpplans."), path)
+
+    def trees(self):
+        return [(path, ast.parse(path.read_text(encoding="utf-8"))) for path in self.files()]
+
+    def test_builtins(self):
+        """Few builtins are used, and none of their names is given another meaning."""
+        for path, tree in self.trees():
+            for node in ast.walk(tree):
+                if isinstance(node, ast.Name):
+                    self.assertTrue(node.id in BUILTINS or node.id not in dir(builtins), (path, node.id))
+                    if isinstance(node.ctx, ast.Store):
+                        self.assertNotIn(node.id, dir(builtins), path)
+                elif isinstance(node, ast.arg):
+                    self.assertNotIn(node.arg, dir(builtins), path)
+                elif isinstance(node, (ast.FunctionDef, ast.ClassDef)):
+                    self.assertNotIn(node.name, dir(builtins), path)
+
+    def test_methods(self):
+        own = set()
+        for _, tree in self.trees():
+            for node in ast.walk(tree):
+                if isinstance(node, ast.ClassDef):
+                    own.update(part.name for part in node.body if isinstance(part, ast.FunctionDef))
+        for path, tree in self.trees():
+            for node in ast.walk(tree):
+                if isinstance(node, ast.Call) and isinstance(node.func, ast.Attribute):
+                    self.assertTrue(node.func.attr in METHODS or node.func.attr in own, (path, node.func.attr))
+
+    def test_no_forms_that_are_barred(self):
+        barred = (
+            ast.GeneratorExp, ast.Yield, ast.YieldFrom, ast.Global, ast.AsyncFunctionDef, ast.Pow, ast.Div, ast.Await)
+        for path, tree in self.trees():
+            for node in ast.walk(tree):
+                self.assertNotIsInstance(node, barred, path)
+                if isinstance(node, ast.Constant):
+                    self.assertNotIsInstance(node.value, (float, bytes), path)
+                if isinstance(node, ast.Compare):
+                    for sign, side in zip(node.ops, node.comparators):
+                        if isinstance(sign, (ast.Is, ast.IsNot)):
+                            self.assertIsInstance(side, ast.Constant, path)
+
+    def test_each_import_is_used(self):
+        for path, tree in self.trees():
+            imported = {
+                alias.name for node in tree.body if isinstance(node, ast.ImportFrom) for alias in node.names}
+            used = {node.id for node in ast.walk(tree) if isinstance(node, ast.Name)}
+            self.assertEqual(imported - used, set(), path)
 
     def test_no_name_hides_an_import(self):
         for path in self.files():

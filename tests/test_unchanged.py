@@ -2,13 +2,20 @@ import copy
 import unittest
 
 from lumpplans.cuts import behind, counter, cuts, is_cut, judge_counter
-from lumpplans.errors import BadPlan, BadShape, BadTable
+from lumpplans.digits import crossing, depth, is_lump, least_lump, lump_at, path_of
+from lumpplans.errors import BadPlace, BadPlan, BadShape, BadTable
+from lumpplans.exchanges import exchanges, turning, turns_into
 from lumpplans.gluing import glued
+from lumpplans.heights import deepest, height, height_paper, judge_height_paper
 from lumpplans.lumps import all_lumps
+from lumpplans.parting import common_beginning, judge_parting, least_parting, parting
+from lumpplans.partings import group_numbers, groups, nearest, parting_table
+from lumpplans.plainforms import plain, prime_list
 from lumpplans.plans import Plan
 from lumpplans.pressing import row_behind, shape
 from lumpplans.primes import primes
 from lumpplans.shapes import check_shape, is_shape, part_at
+from lumpplans.sizes import lump_sizes
 from lumpplans.tables import check_table, is_table
 from lumpplans.words import is_number, is_word
 from tests.samples import P, Q, TWO, L, R, TWO_TWO
@@ -17,6 +24,10 @@ VALUES = (
     [1, [2], {"a": [3]}], {"a": [1], (0, 1): {}}, (P, [1, [2]]), ([()], {"b": ()}), ("lump", [4], {}),
     [TWO, [P], {0: 1}], (TWO, [P]), ["size"],
 )
+
+
+PLAN = Plan((TWO,), "left")
+ROUND = Plan((), (TWO, L))
 
 
 class UnchangedTest(unittest.TestCase):
@@ -33,6 +44,12 @@ class UnchangedTest(unittest.TestCase):
             self.check_unchanged(lambda path: part_at(Q, path), value)
             self.check_unchanged(lambda b: is_cut(TWO_TWO, b), value)
             self.check_unchanged(lambda told: judge_counter(TWO_TWO, 3, told), value)
+            self.check_unchanged(lambda path: lump_at(PLAN, 7, path), value)
+            for call in (is_lump, path_of):
+                self.check_unchanged(lambda i: call(PLAN, 7, i, 7), value)
+                self.check_unchanged(lambda j: call(PLAN, 7, 0, j), value)
+            self.check_unchanged(lambda told: judge_parting(PLAN, ROUND, told), value)
+            self.check_unchanged(lambda told: judge_height_paper(PLAN, told), value)
 
     def test_where_an_error_is_raised(self):
         for value in VALUES:
@@ -48,6 +65,37 @@ class UnchangedTest(unittest.TestCase):
                     paths.append(caught.exception.path)
                 self.assertEqual(paths[0], paths[1])
 
+    def test_values_that_are_no_places(self):
+        for value in VALUES:
+            for call in (
+                    lambda i: depth(PLAN, 7, i), lambda i: least_lump(PLAN, 7, i, None),
+                    lambda j: least_lump(PLAN, 7, 6, j)):
+                for _ in range(2):
+                    before = copy.deepcopy(value)
+                    with self.assertRaises(BadPlace) as caught:
+                        call(value)
+                    self.assertEqual(value, before)
+                    self.assertIs(caught.exception.number, value)
+
+    def test_lists_of_plans(self):
+        plans = [PLAN, ROUND, Plan((TWO_TWO,), (L,)), PLAN]
+        for call in (parting_table, group_numbers, lambda found: groups(found, 7), lambda found: nearest(PLAN, found)):
+            before = list(plans)
+            first = call(plans)
+            self.assertEqual(plans, before)
+            if isinstance(first, list):
+                for member in first:
+                    if isinstance(member, list):
+                        member.clear()
+                first.clear()
+            self.assertEqual(call(plans), call(list(before)))
+
+    def test_lists_of_primes(self):
+        self.check_unchanged(lambda found: turns_into(TWO, found, TWO), [TWO, TWO])
+        self.check_unchanged(lambda found: turns_into(TWO, found, L), [L])
+        turning(TWO, TWO).append(L)
+        self.assertEqual(turning(TWO, TWO), [])
+
     def test_lists_of_tables(self):
         self.check_unchanged(glued, [TWO, L, R])
         self.check_unchanged(lambda tables: Plan(tables, (L,)), [TWO, L, R])
@@ -59,6 +107,15 @@ class UnchangedTest(unittest.TestCase):
                 all_lumps(plan, n).clear()
                 row_behind(plan, n, 1).clear()
                 self.assertEqual(shape(plan, n), shape(Plan((TWO, L), end), n))
+                prime_list(plan, n).clear()
+                exchanges(plan).clear()
+                common_beginning(plan, PLAN).clear()
+                lump_sizes(plan, n).clear()
+                for call in (height, deepest):
+                    self.assertEqual(call(plan, n), call(Plan((TWO, L), end), n))
+                self.assertEqual(crossing(plan, 30, 1, 9), crossing(Plan((TWO, L), end), 30, 1, 9))
+            for call in (plain, height_paper, lambda one: least_parting(one, PLAN), lambda one: parting(PLAN, one)):
+                self.assertEqual(call(plan), call(Plan((TWO, L), end)))
             self.assertEqual(plan, Plan((TWO, L), end))
 
     def test_tables_made_anew(self):
