@@ -21,6 +21,11 @@ def _end_lumps(end, row):
     return [(lump[0], row[-1][1]) for lump in row[:-1]]
 
 
+def in_order(lumps):
+    """Return the list of some lumps in their order: each comes ahead of those within it."""
+    return sorted(lumps, key=lambda lump: (lump[0], -lump[1]))
+
+
 def all_lumps(plan, n):
     """Return the list of the lumps of a plan at n, in order."""
     row = stretches(n, 1)
@@ -33,4 +38,4 @@ def all_lumps(plan, n):
             behind.append((stretch[0][0], stretch[-1][1]))
         row = behind
     found.extend(_end_lumps(plan.end(), row))
-    return sorted(found, key=lambda lump: (lump[0], -lump[1]))
+    return in_order(found)

@@ -14,6 +14,11 @@ def is_word(value):
     return all([character in LETTERS or character in DIGITS for character in value])
 
 
+def is_integer(value):
+    """Return whether value, which may be anything, is an integer."""
+    return isinstance(value, int) and not isinstance(value, bool)
+
+
 def is_number(value):
     """Return whether value, which may be anything, is an integer of at least 0."""
-    return isinstance(value, int) and not isinstance(value, bool) and value >= 0
+    return is_integer(value) and value >= 0

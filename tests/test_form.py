@@ -44,6 +44,20 @@ INTERFACE = {
     "heights": "height last_depths deepest least_height is_least_high height_paper judge_height_paper",
     "sizes": "lump_sizes count_of_size",
     "lowcounts": "count_high count_low count_low_tables high_shape high_number low_table",
+    "lasting": "is_lasting lasting count_lasting breaks_at new_lasting",
+    "stores": "store",
+    "papers": "thing_paper judge_thing_paper beginning_paper judge_beginning_paper",
+    "worths": (
+        "is_rule pressed shape_worth plan_worth lump_worths factors things_apart is_free bracket_paper "
+        "judge_bracket_paper carried carried_on"),
+    "ledger": "Ledger",
+    "lengths": "used_entries lacking are_telling fewest_lengths next_length",
+}
+
+CLASSES = {
+    "plans.Plan": "__init__ __eq__ tables end stage",
+    "ledger.Ledger": (
+        "__init__ add change exchange plan things worth worth_of kept presses whole_presses twin"),
 }
 
 
@@ -55,9 +69,11 @@ class InterfaceTest(unittest.TestCase):
                 self.assertEqual(getattr(module, word).__module__, module.__name__, word)
 
     def test_methods_stand_in_their_class(self):
-        from lumpplans.plans import Plan
-        for name in ("__init__", "__eq__", "tables", "end", "stage"):
-            self.assertIn(name, vars(Plan))
+        for place, words in CLASSES.items():
+            name, class_name = place.split(".")
+            module = importlib.import_module("lumpplans." + name)
+            for word in words.split():
+                self.assertIn(word, vars(getattr(module, class_name)))
 
 
 class FormTest(unittest.TestCase):

@@ -7,7 +7,11 @@ from lumpplans.errors import BadPlace, BadPlan, BadShape, BadTable
 from lumpplans.exchanges import exchanges, turning, turns_into
 from lumpplans.gluing import glued
 from lumpplans.heights import deepest, height, height_paper, judge_height_paper
+from lumpplans.lasting import breaks_at, count_lasting, is_lasting, lasting, new_lasting
+from lumpplans.ledger import Ledger
+from lumpplans.lengths import are_telling, fewest_lengths, lacking, next_length, used_entries
 from lumpplans.lumps import all_lumps
+from lumpplans.papers import beginning_paper, judge_beginning_paper, judge_thing_paper, thing_paper
 from lumpplans.parting import common_beginning, judge_parting, least_parting, parting
 from lumpplans.partings import group_numbers, groups, nearest, parting_table
 from lumpplans.plainforms import plain, prime_list
@@ -16,8 +20,12 @@ from lumpplans.pressing import row_behind, shape
 from lumpplans.primes import primes
 from lumpplans.shapes import check_shape, is_shape, part_at
 from lumpplans.sizes import lump_sizes
+from lumpplans.stores import store
 from lumpplans.tables import check_table, is_table
 from lumpplans.words import is_number, is_word
+from lumpplans.worths import (
+    carried, carried_on, factors, is_rule, judge_bracket_paper, lump_worths, plan_worth, shape_worth, things_apart,
+)
 from tests.samples import P, Q, TWO, L, R, TWO_TWO
 
 VALUES = (
@@ -26,6 +34,7 @@ VALUES = (
 )
 
 
+RULE = (2, 3, 1, 1000)
 PLAN = Plan((TWO,), "left")
 ROUND = Plan((), (TWO, L))
 
@@ -50,6 +59,13 @@ class UnchangedTest(unittest.TestCase):
                 self.check_unchanged(lambda j: call(PLAN, 7, 0, j), value)
             self.check_unchanged(lambda told: judge_parting(PLAN, ROUND, told), value)
             self.check_unchanged(lambda told: judge_height_paper(PLAN, told), value)
+            self.check_unchanged(lambda i: is_lasting(PLAN, 7, i, 7), value)
+            self.check_unchanged(lambda j: is_lasting(PLAN, 7, 0, j), value)
+            self.check_unchanged(lambda told: judge_thing_paper(PLAN, 7, 3, told), value)
+            self.check_unchanged(lambda told: judge_beginning_paper(PLAN, 3, 7, told), value)
+            self.check_unchanged(is_rule, value)
+            self.check_unchanged(lambda told: judge_bracket_paper(RULE, told), value)
+            self.check_unchanged(lambda i: Ledger(RULE, PLAN).worth_of(i, 1), value)
 
     def test_where_an_error_is_raised(self):
         for value in VALUES:
@@ -69,7 +85,8 @@ class UnchangedTest(unittest.TestCase):
         for value in VALUES:
             for call in (
                     lambda i: depth(PLAN, 7, i), lambda i: least_lump(PLAN, 7, i, None),
-                    lambda j: least_lump(PLAN, 7, 6, j)):
+                    lambda j: least_lump(PLAN, 7, 6, j), lambda i: thing_paper(PLAN, 7, i),
+                    lambda i: judge_thing_paper(PLAN, 7, i, []), lambda i: Ledger(RULE, PLAN).change(i, 1)):
                 for _ in range(2):
                     before = copy.deepcopy(value)
                     with self.assertRaises(BadPlace) as caught:
@@ -99,6 +116,43 @@ class UnchangedTest(unittest.TestCase):
     def test_lists_of_tables(self):
         self.check_unchanged(glued, [TWO, L, R])
         self.check_unchanged(lambda tables: Plan(tables, (L,)), [TWO, L, R])
+
+    def test_papers(self):
+        for paper in ([(2, 3), (0, 2), (4, 6), (6, 7)], [[2, 3], (0, 2)], []):
+            self.check_unchanged(lambda found: judge_thing_paper(PLAN, 7, 3, found), paper)
+            self.check_unchanged(lambda found: judge_beginning_paper(PLAN, 2, 7, found), paper)
+
+    def test_lists_of_numbers(self):
+        for things in ([5, 6, 7, 8, 9], [0, 0, 0, 0, 0]):
+            self.check_unchanged(lambda found: lump_worths(RULE, PLAN, found), things)
+            self.check_unchanged(lambda found: plan_worth(RULE, PLAN, found), things)
+            self.check_unchanged(lambda found: shape_worth(RULE, shape(PLAN, 5), found), things)
+            self.check_unchanged(lambda found: carried(RULE, PLAN, 7, 3, 1, found[:4]), things)
+            self.check_unchanged(lambda found: carried_on(RULE, PLAN, 4, 7, found[:3]), things)
+            self.check_unchanged(lambda found: Ledger(RULE, PLAN).add(found), things)
+        sizes, lengths = [3, 5], [7, 13]
+        for call in (lacking, are_telling, next_length):
+            self.check_unchanged(lambda found: call(found, lengths), sizes)
+            self.check_unchanged(lambda found: call(sizes, found), lengths)
+        self.check_unchanged(fewest_lengths, sizes)
+        self.check_unchanged(lambda found: used_entries(found, 7), sizes)
+
+    def test_growing_rows(self):
+        for end in ("left", "right", (TWO, R)):
+            plan, again = Plan([TWO, L], end), Plan((TWO, L), end)
+            for call in (
+                    lasting, new_lasting, store, lambda one, n: thing_paper(one, n, 1),
+                    lambda one, n: beginning_paper(one, n, n + 3), lambda one, n: lump_worths(RULE, one, [1] * n)):
+                for n in (2, 7, 30):
+                    call(plan, n).clear()
+                    self.assertEqual(call(plan, n), call(again, n))
+            self.assertEqual(count_lasting(plan, 30), count_lasting(again, 30))
+            self.assertEqual(breaks_at(plan, 30, 0, 30), breaks_at(again, 30, 0, 30))
+            factors(RULE, Q).clear()
+            self.assertEqual(len(factors(RULE, Q)), 3)
+            things_apart(RULE, L[1], R[1]).clear()
+            self.assertEqual(len(things_apart(RULE, L[1], R[1])), 3)
+            self.assertEqual(plan, again)
 
     def test_plans_never_change(self):
         for end in ("left", "right", (TWO, R)):
