@@ -31,7 +31,7 @@ def _above_from(shape, b, place):
     return (left, right), end
 
 
-def _above(shape, b):
+def above(shape, b):
     """Return the shape with its stretches of b, which must be lumps, as one lump each."""
     made, _ = _above_from(shape, b, 0)
     return made
@@ -51,19 +51,24 @@ def _first_above_counter(table, b):
     for n in range(b + 1, table_size(table) + 1):
         # The entry with as many stretches, of which the last one is a single lump.
         m = (n - 1) // b * b + 1
-        if _above(entry(table, m), b) != _above(entry(table, n), b):
+        if above(entry(table, m), b) != above(entry(table, n), b):
             return ("above", m, n)
     return None
+
+
+def entries_counter(table, b):
+    """Return a counter for b of another kind than "size", or None if there is none of these."""
+    found = _first_stretch_counter(table, b)
+    if found is None:
+        found = _first_above_counter(table, b)
+    return found
 
 
 def counter(table, b):
     """Return a counter for b, from 2 to the size less 1, or None if b is a cut."""
     if table_size(table) % b != 0:
         return ("size",)
-    found = _first_stretch_counter(table, b)
-    if found is None:
-        found = _first_above_counter(table, b)
-    return found
+    return entries_counter(table, b)
 
 
 def is_cut(table, b):
@@ -80,7 +85,7 @@ def cuts(table):
 
 def table_above(table, b, size):
     """Return the table of a size behind a cut b, told by the entries up to b * size."""
-    return tuple([_above(entry(table, b * m), b) for m in range(2, size + 1)])
+    return tuple([above(entry(table, b * m), b) for m in range(2, size + 1)])
 
 
 def behind(table, b):
@@ -104,13 +109,11 @@ def _is_above_counter(table, b, m, n):
     for size in (m, n):
         if any([fault is not None for fault in _stretch_faults(table, b, size)]):
             return False
-    return _above(entry(table, m), b) != _above(entry(table, n), b)
+    return above(entry(table, m), b) != above(entry(table, n), b)
 
 
-def judge_counter(table, b, value):
-    """Return whether value, which may be anything, is a counter for b."""
-    if value == ("size",):
-        return table_size(table) % b != 0
+def judge_entries_counter(table, b, value):
+    """Return whether value, which may be anything, is a counter for b of another kind than "size"."""
     if not isinstance(value, tuple) or len(value) != 3:
         return False
     kind, m, last = value
@@ -121,3 +124,10 @@ def judge_counter(table, b, value):
     if kind == "above" and last <= table_size(table):
         return _is_above_counter(table, b, m, last)
     return False
+
+
+def judge_counter(table, b, value):
+    """Return whether value, which may be anything, is a counter for b."""
+    if value == ("size",):
+        return table_size(table) % b != 0
+    return judge_entries_counter(table, b, value)

@@ -132,15 +132,20 @@ def path_of(plan, n, i, j):
     return (step,) * times + last + path
 
 
-def _check_place(n, value):
-    """Raise BadPlace(value) if value, which may be anything, is no place of n lumps."""
-    if not is_number(value) or value >= n:
+def is_place(n, value):
+    """Return whether value, which may be anything, is a place of a row of n lumps."""
+    return is_number(value) and value < n
+
+
+def check_place(n, value):
+    """Raise BadPlace(value) if value, which may be anything, is no place of a row of n lumps."""
+    if not is_place(n, value):
         raise BadPlace(value)
 
 
 def depth(plan, n, i):
     """Return the depth of a place of a plan at n; i may be anything."""
-    _check_place(n, i)
+    check_place(n, i)
     used, left, _ = stages_used(plan, n)
     many_above = 0
     for table, many, _ in used:
@@ -188,8 +193,8 @@ def _fork(plan, n, i, j):
 
 def least_lump(plan, n, i, j):
     """Return the least lump that has the places i and j, which may be anything."""
-    _check_place(n, i)
-    _check_place(n, j)
+    check_place(n, i)
+    check_place(n, j)
     if i == j:
         return (i, i + 1)
     x, _, y = _fork(plan, n, min(i, j), max(i, j))

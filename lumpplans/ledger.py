@@ -1,10 +1,8 @@
 """Ledgers: rows of things with a rule and a plan, and the worths of their kept lumps."""
 
-from lumpplans.digits import is_lump
-from lumpplans.errors import BadPlace
+from lumpplans.digits import check_place, is_lump
 from lumpplans.keptparts import kept_middles, kept_on
 from lumpplans.stores import store
-from lumpplans.words import is_number
 from lumpplans.worths import lump_worths, pressed
 
 
@@ -26,8 +24,7 @@ class Ledger:
 
     def change(self, place, thing):
         """Exchange the thing at a place, which may be anything, for another one."""
-        if not is_number(place) or place >= len(self._things):
-            raise BadPlace(place)
+        check_place(len(self._things), place)
         self._things[place] = thing
         known = {(i, j): worth for (i, j), worth in self._worths.items() if not i <= place < j}
         self._press_kept(kept_middles(self._plan, len(self._things)), known)

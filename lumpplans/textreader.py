@@ -28,6 +28,21 @@ class TextReader:
             raise BadText(self._place())
         self._at += 1
 
+    def take_one_of(self, words):
+        """Go on behind the next lexeme, which must be one of some words; return it."""
+        for word in words:
+            if self.sees(word):
+                self._at += 1
+                return word
+        raise BadText(self._place())
+
+    def take_sort(self, sort):
+        """Go on behind the next lexeme, which must be of a sort, such as "word"; return it."""
+        if self._at == len(self._lexemes) or self._lexemes[self._at][0] != sort:
+            raise BadText(self._place())
+        self._at += 1
+        return self._lexemes[self._at - 1][1]
+
     def finish(self):
         """Raise BadText(place) if the text goes on."""
         if self._place() < self._length:

@@ -5,7 +5,7 @@ import random
 from lumpplans.plans import Plan
 from lumpplans.shapes import comb
 from tests import oracles
-from tests.samples import P, TWO, L, R, TWO_TWO, drawn_plan, drawn_table
+from tests.samples import P, TWO, L, R, TWO_TWO, drawn_plan, drawn_shape, drawn_table
 from tests.test_pressing import EXAMPLE
 
 # The tables of the examples.
@@ -19,10 +19,37 @@ def sudden_table(size):
     return tuple(comb(m, "right") for m in range(2, size)) + (comb(size, "left"),)
 
 
+def last_lump_pressed(shape):
+    """Return a shape with its last lump exchanged for two that are pressed."""
+    if shape == ():
+        return P
+    return (shape[0], last_lump_pressed(shape[1]))
+
+
+def steady_table(draw, size):
+    """Return a drawn table of which many lumps of an entry are lumps of the next ones, too."""
+    entries = [P]
+    for m in range(3, size + 1):
+        before = entries[-1]
+        entries.append(draw.choice([
+            (before, ()), (before, ()), last_lump_pressed(before), last_lump_pressed(before), ((), before),
+            drawn_shape(draw, m)]))
+    return tuple(entries)
+
+
+def steady_plan(draw):
+    """Return a drawn plan with such tables."""
+    tables = [steady_table(draw, draw.randint(2, 7)) for _ in range(draw.randint(1, 3))]
+    return Plan(tables[1:], draw.choice(["left", "right", tuple(tables[:1])]))
+
+
 def growing_plans(many=16):
     """Return drawn plans of small tables with each kind of end, and those of the examples."""
     draw = random.Random(110)
-    return [drawn_plan(draw, 4) for _ in range(many)] + [
+    found = []
+    for _ in range(many // 2):
+        found += [drawn_plan(draw, 4), steady_plan(draw)]
+    return found + [
         Plan((), "left"), Plan((), "right"), Plan((), (TWO,)), Plan((), (L,)), Plan((), (R,)), EXAMPLE,
         Plan((TWO,), "right"), Plan((LATE,), "left"), Plan((), (FOUR,)), Plan((), (AGAIN,)), Plan((R, TWO), "left"),
         Plan((drawn_table(draw, 7),), "right"), Plan((LATE, L), (TWO_TWO,)), Plan((sudden_table(5),), (L,)),

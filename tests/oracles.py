@@ -16,6 +16,13 @@ FORMS = {
         "round": ["round", "{", "TABLE", "MORE", "}"],
     },
     "PLAN": {"plan": ["plan", "{", "TABLES", "END", "}"]},
+    "LINE": {
+        "row": ["row", "NAME", "PLAN"], "grow": ["grow", "NAME", "NUMBER"], "change": ["change", "NAME", "NUMBER"],
+        "plan": ["plan", "NAME", "PLAN"], "nail": ["nail", "NAME"], "free": ["free", "NAME"], "drop": ["drop", "NAME"],
+        "undo": ["undo"], "redo": ["redo"], "keep": ["keep", "NAME", "NAME"], "rows": ["rows"], "size": ["size", "NAME"],
+        "store": ["store", "NAME"], "kept": ["kept"], "paid": ["paid"], "anew": ["anew"], "lost": ["lost"],
+        "cost": ["cost", "NAME", "PLAN"], "since": ["since", "NAME"],
+    },
 }
 
 
@@ -165,6 +172,15 @@ def plan_shape(plan, n):
     return row[0]
 
 
+def stands_for(sign, lexeme):
+    """Return whether a sign of a form stands for a lexeme."""
+    if sign == "NAME":
+        return lexeme[0].isalpha()
+    if sign == "NUMBER":
+        return lexeme[0].isdigit()
+    return sign == lexeme
+
+
 def wrong_place(form, text):
     """Return the first wrong place of a text, or None if it is of the form."""
     wanted = [form]
@@ -183,6 +199,6 @@ def wrong_place(form, text):
             if lexeme not in choices:
                 return at
             wanted.extend(reversed(choices[lexeme]))
-        if not wanted or wanted.pop() != lexeme:
+        if not wanted or not stands_for(wanted.pop(), lexeme):
             return at
         at = found.end()

@@ -52,12 +52,24 @@ INTERFACE = {
         "judge_bracket_paper carried carried_on"),
     "ledger": "Ledger",
     "lengths": "used_entries lacking are_telling fewest_lengths next_length",
+    "readback": "fits_shape entries_told",
+    "seencuts": "seen_cuts seen_counter judge_seen_counter",
+    "readings": "misfit Reading",
+    "cheapplans": "plan_cost fits_shapes cheapest_plan least_cost",
+    "keeping": "kept_lumps switch change_cost",
+    "house": "House",
+    "console": "Console",
 }
 
 CLASSES = {
     "plans.Plan": "__init__ __eq__ tables end stage",
     "ledger.Ledger": (
         "__init__ add change exchange plan things worth worth_of kept presses whole_presses twin"),
+    "readings.Reading": "__init__ add pairs told lacking left twin",
+    "house.House": (
+        "__init__ act_word do undo redo done undone rows plan size is_nailed kept store kept_count paid anew lost "
+        "keep marks since twin"),
+    "console.Console": "__init__ answer",
 }
 
 

@@ -1,12 +1,16 @@
 import copy
 import unittest
 
+from lumpplans.cheapplans import cheapest_plan, fits_shapes, least_cost
+from lumpplans.console import Console
 from lumpplans.cuts import behind, counter, cuts, is_cut, judge_counter
 from lumpplans.digits import crossing, depth, is_lump, least_lump, lump_at, path_of
-from lumpplans.errors import BadPlace, BadPlan, BadShape, BadTable
+from lumpplans.errors import BadAct, BadPlace, BadPlan, BadShape, BadTable, UnknownName
 from lumpplans.exchanges import exchanges, turning, turns_into
 from lumpplans.gluing import glued
 from lumpplans.heights import deepest, height, height_paper, judge_height_paper
+from lumpplans.house import House
+from lumpplans.keeping import change_cost, kept_lumps, switch
 from lumpplans.lasting import breaks_at, count_lasting, is_lasting, lasting, new_lasting
 from lumpplans.ledger import Ledger
 from lumpplans.lengths import are_telling, fewest_lengths, lacking, next_length, used_entries
@@ -18,6 +22,9 @@ from lumpplans.plainforms import plain, prime_list
 from lumpplans.plans import Plan
 from lumpplans.pressing import row_behind, shape
 from lumpplans.primes import primes
+from lumpplans.readback import entries_told, fits_shape
+from lumpplans.readings import Reading, misfit
+from lumpplans.seencuts import judge_seen_counter, seen_counter, seen_cuts
 from lumpplans.shapes import check_shape, is_shape, part_at
 from lumpplans.sizes import lump_sizes
 from lumpplans.stores import store
@@ -66,6 +73,10 @@ class UnchangedTest(unittest.TestCase):
             self.check_unchanged(is_rule, value)
             self.check_unchanged(lambda told: judge_bracket_paper(RULE, told), value)
             self.check_unchanged(lambda i: Ledger(RULE, PLAN).worth_of(i, 1), value)
+            self.check_unchanged(lambda made: fits_shape([2, 3], "left", 3, made), value)
+            self.check_unchanged(lambda told: judge_seen_counter([(), P, Q], 2, told), value)
+            self.check_unchanged(House().act_word, value)
+            self.check_unchanged(lambda name: House().act_word(("row", name, value)), value)
 
     def test_where_an_error_is_raised(self):
         for value in VALUES:
@@ -86,7 +97,8 @@ class UnchangedTest(unittest.TestCase):
             for call in (
                     lambda i: depth(PLAN, 7, i), lambda i: least_lump(PLAN, 7, i, None),
                     lambda j: least_lump(PLAN, 7, 6, j), lambda i: thing_paper(PLAN, 7, i),
-                    lambda i: judge_thing_paper(PLAN, 7, i, []), lambda i: Ledger(RULE, PLAN).change(i, 1)):
+                    lambda i: judge_thing_paper(PLAN, 7, i, []), lambda i: Ledger(RULE, PLAN).change(i, 1),
+                    lambda i: change_cost(PLAN, 7, i)):
                 for _ in range(2):
                     before = copy.deepcopy(value)
                     with self.assertRaises(BadPlace) as caught:
@@ -153,6 +165,56 @@ class UnchangedTest(unittest.TestCase):
             things_apart(RULE, L[1], R[1]).clear()
             self.assertEqual(len(things_apart(RULE, L[1], R[1])), 3)
             self.assertEqual(plan, again)
+
+    def test_shapes_told_back(self):
+        shapes = [shape(PLAN, n) for n in range(1, 9)]
+        pairs = [(n, shape(PLAN, n)) for n in (3, 7, 4)]
+        for call in (
+                seen_cuts, cheapest_plan, least_cost, lambda found: seen_counter(found, 3),
+                lambda found: fits_shapes(PLAN, found), lambda found: judge_seen_counter(found, 3, ("lump", 4, 0))):
+            self.check_unchanged(call, shapes)
+        self.check_unchanged(lambda found: entries_told([2, 3], "left", found), pairs)
+        self.check_unchanged(lambda found: misfit([2, 3], "left", found, (3, Q)), pairs)
+        self.check_unchanged(lambda found: entries_told(found, "left", []), [2, 3])
+        self.check_unchanged(lambda found: misfit(found, "left", pairs, (3, Q)), [2, 3])
+        self.check_unchanged(lambda found: Reading(found, "left").told().clear(), [2, 3])
+
+    def test_houses_and_values_that_are_no_acts(self):
+        house = House()
+        house.do(("row", "a", PLAN))
+        for value in VALUES:
+            before = copy.deepcopy(value)
+            for error, call in (
+                    (BadAct, house.do), (UnknownName, house.size), (UnknownName, house.since),
+                    (UnknownName, lambda name: house.keep("m", name))):
+                for _ in range(2):
+                    with self.assertRaises(error) as caught:
+                        call(value)
+                    self.assertEqual(value, before)
+                    if error is BadAct:
+                        self.assertEqual(caught.exception.word, "form")
+                    else:
+                        self.assertIs(caught.exception.name, value)
+        self.assertEqual((house.done(), house.rows(), house.marks()), ([("row", "a", PLAN)], ["a"], []))
+
+    def test_kept_lumps(self):
+        for end in ("left", "right", (TWO, R)):
+            plan, again = Plan([TWO, L], end), Plan((TWO, L), end)
+            for n in (0, 1, 7, 60):
+                kept_lumps(plan, n).clear()
+                self.assertEqual(kept_lumps(plan, n), kept_lumps(again, n))
+                self.assertEqual(switch(plan, PLAN, n), switch(again, PLAN, n))
+            self.assertEqual(plan, again)
+
+    def test_houses_made_anew_by_the_same_calls(self):
+        lines = (
+            "row a plan { left; }", "grow a 9", "keep m a", "undo", "grow a 2", "plan a plan { right; }", "undo", "redo",
+            "change a 1", "store a", "cost a plan { left; }", "since m", "kept", "paid", "anew", "lost", "redo", "x")
+        answers = []
+        for _ in range(2):
+            console = Console(House())
+            answers.append([console.answer(line) for line in lines])
+        self.assertEqual(answers[0], answers[1])
 
     def test_plans_never_change(self):
         for end in ("left", "right", (TWO, R)):
