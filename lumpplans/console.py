@@ -64,7 +64,7 @@ class Console:
             word, members = read_line(line)
             if word in ACTS:
                 return str(self._house.do((word, *members)))
-            return self._told(word, members)
+            return self._reply(word, members)
         except BadText as wrong:
             return f"no BadText {wrong.place}"
         except BadAct as refused:
@@ -74,7 +74,7 @@ class Console:
         except UnknownName:
             return "no UnknownName"
 
-    def _told(self, word, members):
+    def _reply(self, word, members):
         """Return the answer to a line that does no act, told by its first word and its other members."""
         if word == "cost":
             return self._cost(members[0], members[1])

@@ -114,14 +114,10 @@ def count_lasting(plan, n):
 def _new_in_stage(stage, n):
     """Return the lumps of more than one lump of the stretches of a stage that become lasting at n."""
     table, many, width = stage
-    last = (many - 1) // table_size(table)
-    many_before = rounded_up(n - 1, width)
-    before = []
-    # In all stretches ahead of the last one each lump was lasting before.
-    if many_before > last * table_size(table):
-        before = lasting_in_last((table, many_before, width), n - 1)
+    # Of a stretch that was not there before one lump alone is there now, so nothing is found.
+    before = lasting_in_last((table, rounded_up(n - 1, width), width), n - 1)
     found = [lump for lump in lasting_in_last(stage, n) if lump not in before]
-    return placed(stage, last, found, n)
+    return placed(stage, (many - 1) // table_size(table), found, n)
 
 
 def new_lasting(plan, n):

@@ -154,6 +154,39 @@ class FormTest(unittest.TestCase):
                         if isinstance(sign, (ast.Is, ast.IsNot)):
                             self.assertIsInstance(side, ast.Constant, path)
 
+    def test_names_are_bound_once(self):
+        for path, tree in self.trees():
+            names = []
+            for node in tree.body:
+                if isinstance(node, ast.ImportFrom):
+                    names += [alias.name for alias in node.names]
+                elif isinstance(node, (ast.FunctionDef, ast.ClassDef)):
+                    names.append(node.name)
+                elif isinstance(node, ast.Assign):
+                    names += [target.id for target in node.targets]
+            self.assertEqual(len(names), len(set(names)), path)
+
+    def test_names_of_attributes_and_methods(self):
+        """No name is a method in one class and an attribute in any."""
+        methods, attributes = set(), set()
+        for _, tree in self.trees():
+            for node in ast.walk(tree):
+                if isinstance(node, ast.ClassDef):
+                    methods.update(part.name for part in node.body if isinstance(part, ast.FunctionDef))
+                elif isinstance(node, ast.Attribute) and isinstance(node.ctx, ast.Store):
+                    attributes.add(node.attr)
+        self.assertEqual(methods & attributes, set())
+
+    def test_names_in_functions(self):
+        """The name _ is never read, and no two handlers of a function give their errors one name."""
+        for path, tree in self.trees():
+            for node in ast.walk(tree):
+                if isinstance(node, ast.Name) and node.id == "_":
+                    self.assertIsInstance(node.ctx, ast.Store, path)
+                if isinstance(node, ast.FunctionDef):
+                    caught = [part.name for part in ast.walk(node) if isinstance(part, ast.ExceptHandler) and part.name]
+                    self.assertEqual(len(caught), len(set(caught)), (path, node.name))
+
     def test_each_import_is_used(self):
         for path, tree in self.trees():
             imported = {
